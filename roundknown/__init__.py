@@ -1,0 +1,1 @@
+"""Roundknown: loops whose whole future is known."""
