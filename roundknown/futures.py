@@ -2,9 +2,9 @@
 
 from roundknown.calculus import add_any, next_any, put_forms, scale_any, shift_any, value_in
 from roundknown.coefficients import constant_of, scale_coefficient, sum_coefficients
-from roundknown.errors import BadValue, NotTold
+from roundknown.errors import BadValue
 from roundknown.forms import is_form_of, sized, start_any
-from roundknown.layers import find_parts, part_matrix, why_not
+from roundknown.layers import check_told, find_parts, part_matrix
 from roundknown.maps import is_map, is_state, step
 from roundknown.matrices import add_diagonal, eigenvalues, multiply_matrices, unit_matrix
 from roundknown.polynomials import variable
@@ -88,9 +88,7 @@ def solve_map(v, rules, starts):
 
 def forms_of(rules):
     """Return the tuple of the forms of the futures of the variables."""
-    reason = why_not(rules)
-    if reason is not None:
-        raise NotTold(reason)
+    check_told(rules)
     k = len(rules)
     return solve_map(k, rules, [variable(k, i) for i in range(k)])
 
@@ -99,9 +97,7 @@ def future_of(rules, state):
     """Return the tuple of the numeric forms of the futures from the state."""
     if not is_state(rules, state):
         raise BadValue("state")
-    reason = why_not(rules)
-    if reason is not None:
-        raise NotTold(reason)
+    check_told(rules)
     return solve_map(0, rules, list(state))
 
 

@@ -114,9 +114,14 @@ def why_not(rules):
     return None
 
 
-def spectrum(rules):
-    """Return the list of the eigenvalues of the parts with their multiplicities."""
+def check_told(rules):
+    """Raise the error of a map that is not told."""
     reason = why_not(rules)
     if reason is not None:
         raise NotTold(reason)
+
+
+def spectrum(rules):
+    """Return the list of the eigenvalues of the parts with their multiplicities."""
+    check_told(rules)
     return [eigenvalues(part_matrix(rules, part))[0] for part in find_parts(rules)]

@@ -2,7 +2,7 @@
 
 from roundknown.errors import BadValue, TooLarge
 from roundknown.polynomials import is_polynomial, put_in, value
-from roundknown.rationals import is_below, is_rational, is_whole
+from roundknown.rationals import are_below, is_below, is_rational, is_whole
 
 # A number of at most 400 digits is less than 10 to the power 400.
 DIGITS_400 = (10 ** 50) ** 8
@@ -59,7 +59,7 @@ def after_rounds(rules, state, n):
     numbers = state
     for _ in range(n):
         numbers = step(rules, numbers)
-        if not all([is_below(number, DIGITS_400) for number in numbers]):
+        if not are_below(numbers, DIGITS_400):
             raise TooLarge("numbers")
     return numbers
 

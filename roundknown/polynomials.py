@@ -1,5 +1,6 @@
 """Polynomials of k variables: tuples of terms (coefficient, exponents) in the order of point 12."""
 
+from roundknown.integers import sign_of
 from roundknown.packed import add_packed, multiply_packed, pack, unpack
 from roundknown.rationals import ONE, ZERO, is_rational, is_whole, power, times, total_of
 
@@ -66,6 +67,11 @@ def value(p, numbers):
                 piece = times(piece, power(number, exponent))
         pieces.append(piece)
     return total_of(pieces)
+
+
+def sign_of_value(p, numbers):
+    """Return the sign of the value of p at the tuple of rationals."""
+    return sign_of(value(p, numbers)[0])
 
 
 def packed_power(packed, exponent):

@@ -95,3 +95,8 @@ def is_rational(x):
 def is_below(a, bound):
     """Return True if the absolute value of the numerator and the denominator are less than bound."""
     return -bound < a[0] < bound and a[1] < bound
+
+
+def are_below(numbers, bound):
+    """Return True if all rationals of a tuple or list are below bound as is_below says."""
+    return all([is_below(number, bound) for number in numbers])

@@ -3,13 +3,11 @@
 from roundknown.errors import BadValue
 from roundknown.forms import is_form_of
 from roundknown.integers import sign_of, sign_runs, value_of
-from roundknown.rationals import common_bottom, is_whole, power
+from roundknown.rationals import common_bottom, power
+from roundknown.stretches import is_round, joined
 
 # From this round on, point 54 tells the sign by the groups alone.
 FAR = 256
-
-# The greatest round.
-LAST = 10 ** 40
 
 
 def weight_of(form):
@@ -71,7 +69,7 @@ def sign_at(form, n):
     """Return the sign of the value of the form in round n."""
     if not is_small(form):
         raise BadValue("form")
-    if not is_whole(n) or not 0 <= n <= LAST:
+    if not is_round(n):
         raise BadValue("n")
     return sign_in(form, groups_of(form, n % 2 == 1), n)
 
@@ -97,12 +95,8 @@ def far_rounds(groups, kind):
 def stretches_of(form, kind):
     """Return the stretches of one kind of rounds: 0 for even rounds, 1 for odd ones."""
     groups = groups_of(form, kind == 1)
-    found = []
-    for n in list(range(kind, FAR, 2)) + far_rounds(groups, kind):
-        sign = sign_in(form, groups, n)
-        if not found or found[-1][1] != sign:
-            found.append((n, sign))
-    return tuple(found)
+    rounds = list(range(kind, FAR, 2)) + far_rounds(groups, kind)
+    return joined([(n, sign_in(form, groups, n)) for n in rounds])
 
 
 def table_of(form):

@@ -25,6 +25,12 @@ INTERFACE = {
              " next_form(variables,factor,start,form) form_at(variables,form,n) start_form(numbers,form)",
     "futures": "forms_of(rules) future_of(rules,state) is_future(rules,forms)",
     "tables": "is_small(form) table_of(form) sign_at(form,n) stretch_bound(form)",
+    "ladders": "ladder_of(form) judge_ladder(form,table,lines)",
+    "conditions": "is_condition(k,value) holds(condition,state) comparisons(condition)",
+    "rounds": "rounds_of(rules,state,condition) rounds_of_table(table,signs) union(first,second) meet(first,second)"
+              " complement(rounds) is_subset(first,second) is_in(rounds,n)",
+    "watches": "first_round(rounds) next_round(rounds,n) last_round(rounds) count_rounds(rounds)"
+               " take_rounds(rounds,n,count) state_at(rules,state,n)",
 }
 
 
