@@ -27,13 +27,16 @@ def is_numbers(k, x):
     return isinstance(x, tuple) and len(x) == k and all([is_rational(number) for number in x])
 
 
+def is_start(k, x):
+    """Return True if x is a state of a map of k variables."""
+    return is_numbers(k, x) and all([-1000 <= n <= 1000 and d <= 12 for n, d in x])
+
+
 def is_state(rules, x):
     """Return True if x is a state of the map."""
     if not is_map(rules):
         raise BadValue("map")
-    if not is_numbers(len(rules), x):
-        return False
-    return all([-1000 <= n <= 1000 and d <= 12 for n, d in x])
+    return is_start(len(rules), x)
 
 
 def one_round(rules, numbers):

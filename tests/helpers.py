@@ -4,6 +4,7 @@ import copy
 from fractions import Fraction
 
 from roundknown.errors import RoundError
+from roundknown.programs import Program
 
 # Values that are no rational, no polynomial, no map, no form and no tuple of such.
 ODD_VALUES = [
@@ -13,12 +14,19 @@ ODD_VALUES = [
 ]
 
 
+def plain(x):
+    """The value with the names and the body in place of each program, so that copies can be compared."""
+    if isinstance(x, Program):
+        return ("program", x.names, x.body)
+    return tuple([plain(item) for item in x]) if isinstance(x, tuple) else x
+
+
 def check_error(test, error, attributes, call, *arguments):
     """Check that the call raises exactly this error with these attributes and leaves its arguments alone."""
     before = copy.deepcopy(arguments)
     with test.assertRaises(RoundError) as caught:
         call(*arguments)
-    test.assertEqual(arguments, before)
+    test.assertEqual(plain(arguments), plain(before))
     test.assertIs(caught.exception.__class__, error, (call.__name__, arguments))
     for name, content in attributes.items():
         test.assertEqual(getattr(caught.exception, name), content)
@@ -31,7 +39,7 @@ def check_call(test, expected, call, *arguments):
     result = call(*arguments)
     test.assertEqual(result, expected, (call.__name__, arguments))
     check_kinds(test, result, expected)
-    test.assertEqual(arguments, before)
+    test.assertEqual(plain(arguments), plain(before))
     again = call(*arguments)
     test.assertEqual(again, expected)
     if isinstance(result, list):

@@ -58,8 +58,13 @@ BARRED_BEGINNINGS = (
 )
 
 
-def problems(path, text, package="roundknown"):
-    """The list of (line, rule, words) for one file."""
+def own_functions(texts):
+    """The names of all functions and methods of the package with these texts."""
+    return {node.name for text in texts for node in ast.walk(ast.parse(text)) if isinstance(node, ast.FunctionDef)}
+
+
+def problems(path, text, package="roundknown", own=()):
+    """The list of (line, rule, words) for one file; own are the names of functions of other files."""
     found = text_problems(text) + token_problems(text)
     tree = ast.parse(text)
     for node in ast.walk(tree):
@@ -67,7 +72,7 @@ def problems(path, text, package="roundknown"):
             child.parent = node
     found += module_problems(tree, package) + name_problems(tree)
     for node in ast.walk(tree):
-        found += statement_problems(node) + expression_problems(node) + call_problems(node, tree)
+        found += statement_problems(node) + expression_problems(node) + call_problems(node, tree, own)
         if isinstance(node, (ast.FunctionDef, ast.Lambda)):
             found += function_problems(node)
     return [(path,) + problem for problem in sorted(set(found))]
@@ -266,7 +271,7 @@ def inside_function(node):
     return False
 
 
-def call_problems(node, tree):
+def call_problems(node, tree, others):
     found = []
     line = getattr(node, "lineno", 1)
     if isinstance(node, ast.Name) and isinstance(node.ctx, ast.Load) and hasattr(builtins, node.id):
@@ -278,7 +283,7 @@ def call_problems(node, tree):
     if not isinstance(node, ast.Call):
         return found
     name = call_name(node)
-    own = {item.name for item in ast.walk(tree) if isinstance(item, ast.FunctionDef)}
+    own = {item.name for item in ast.walk(tree) if isinstance(item, ast.FunctionDef)} | set(others)
     if isinstance(node.func, ast.Attribute) and name not in ALLOWED_METHODS and name not in own:
         if name != "__init__":
             found.append((line, "L25", f"the method {name}"))

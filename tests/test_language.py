@@ -5,7 +5,7 @@ import pathlib
 import re
 import unittest
 
-from language import problems
+from language import own_functions, problems
 
 ROOT = pathlib.Path(__file__).resolve().parent.parent
 PACKAGE = ROOT / "roundknown"
@@ -31,6 +31,12 @@ INTERFACE = {
               " complement(rounds) is_subset(first,second) is_in(rounds,n)",
     "watches": "first_round(rounds) next_round(rounds,n) last_round(rounds) count_rounds(rounds)"
                " take_rounds(rounds,n,count) state_at(rules,state,n)",
+    "relations": "monomials(variables,degree) rounds_enough(rules,state,degree) relations(rules,state,degree)"
+                 " accepts_relation(rules,state,checked) first_exception(rules,state,checked)",
+    "programs": "is_name(value) Program(*,names,body) Program.loops() Program.statements()",
+    "walking": "walk(program,state,limit)",
+    "runs": "run_of(program,state)",
+    "systems": "value_at(expression,numbers) holds_at(row,numbers) solve_system(v,rows) accepts_system(v,rows,answer)",
 }
 
 
@@ -51,11 +57,19 @@ def imported(text):
     return found
 
 
+def parameters(node):
+    """The names of the parameters of a function, with a star before those that are passed by keyword."""
+    plain = [argument.arg for argument in node.args.args]
+    named = [argument.arg for argument in node.args.kwonlyargs]
+    return plain + (["*"] + named if named else [])
+
+
 class PackageTests(unittest.TestCase):
     def test_rules(self):
         found = []
+        own = own_functions([text for name, text in sources()])
         for name, text in sources():
-            found += problems(name, text)
+            found += problems(name, text, own=own)
         self.assertEqual(found, [])
 
     def test_files(self):
@@ -88,10 +102,13 @@ class PackageTests(unittest.TestCase):
             found = {}
             for node in tree.body:
                 if isinstance(node, ast.FunctionDef):
-                    found[node.name] = [argument.arg for argument in node.args.args]
+                    found[node.name] = parameters(node)
                 elif isinstance(node, ast.ClassDef):
-                    makers = [part for part in node.body if getattr(part, "name", "") == "__init__"]
-                    found[node.name] = [argument.arg for maker in makers for argument in maker.args.args[1:]]
+                    found[node.name] = []
+                    for part in node.body:
+                        if isinstance(part, ast.FunctionDef):
+                            called = node.name if part.name == "__init__" else node.name + "." + part.name
+                            found[called] = parameters(part)[1:]
             for word in words.split():
                 called, _, rest = word.partition("(")
                 self.assertIn(called, found)

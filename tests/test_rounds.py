@@ -211,7 +211,8 @@ class TableTests(unittest.TestCase):
         even, odd = self.TABLE
         bad_tables = ODD_VALUES + [list(self.TABLE), (odd, even), (even,), (even, odd, odd), (list(even), odd),
                                    (even, ()), (even, ((1, 0), (3, 0))), (even, ((1, 2),)), (even, ((1, True),)),
-                                   ALL, SOME, (even, ((3, 0),)), (even, ((1, 0), (4, 1))), (even, ((1, 0), (3, 1), (3, 0))),
+                                   ALL, SOME, (even, ((3, 0),)), (even, ((1, 0), (4, 1))),
+                                   (even, ((1, 0), (3, 1), (3, 0))),
                                    (even, ((1, 0, 0),)), (even, ([1, 0],)), (even, ((1, "0"),)), (even, ((1.0, 0),))]
         for bad in bad_tables:
             check_error(self, BadValue, {"name": "table"}, rounds_of_table, bad, [0])
