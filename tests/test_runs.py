@@ -249,7 +249,9 @@ class AgreementTests(unittest.TestCase):
             self.assertIn(walked[0], ("limit", "numbers"))
             self.assertEqual(walked[1:], found[1:])
         elif many <= 60 and found[-1] == "count":
-            self.assertEqual(walked, ("count",) + found[1:3])
+            # A number of rounds that is too great for run_of is no break.
+            self.assertIn(walked[0], ("count", "limit"))
+            self.assertEqual(walked[1:], found[1:3])
         shared = min(len(walked[1]), len(found[1]))
         self.assertEqual(walked[1][:shared], found[1][:shared])
         if walked[0] == "done":
