@@ -59,7 +59,12 @@ def accepts_system(v, rows, answer):
     word, numbers = answer
     if word == "solution":
         return is_numbers(v, numbers) and all([holds_at(row, numbers) for row in rows])
-    return word == "multipliers" and is_numbers(len(rows), numbers) and are_multipliers(v, rows, numbers)
+    return word == "multipliers" and refutes(v, rows, numbers)
+
+
+def refutes(v, rows, x):
+    """Return True if x is a tuple of multipliers for the system, whatever its size."""
+    return is_numbers(len(rows), x) and are_multipliers(v, rows, x)
 
 
 def are_multipliers(v, rows, numbers):

@@ -75,8 +75,11 @@ def true_spans(rounds):
 def last_round(rounds):
     """Return the greatest round of the set, or None."""
     check_rounds(rounds)
-    if is_endless(rounds):
-        return None
+    return None if is_endless(rounds) else greatest_of(rounds)
+
+
+def greatest_of(rounds):
+    """Return the greatest round of a set that has finitely many rounds, or None if it has none."""
     return max([end - 2 for start, end in true_spans(rounds)], default=None)
 
 

@@ -37,6 +37,13 @@ INTERFACE = {
     "walking": "walk(program,state,limit)",
     "runs": "run_of(program,state)",
     "systems": "value_at(expression,numbers) holds_at(row,numbers) solve_system(v,rows) accepts_system(v,rows,answer)",
+    "implications": "guard_holds(guard,state) ways(k,guard) implied(k,first,second)"
+                    " accepts_implied(k,first,second,answer)",
+    "endings": "leads(rules,expression,odd) endless_at_last(rules,guard,state) ends_always(rules,guard)"
+               " round_of(rules,guard,state)",
+    "papers": "cone_of(rules,guard,pair,raised) accepts_ending(rules,guard,answer)",
+    "measures": "kept(rules,guard) accepts_kept(rules,guard,answer) falls(rules,guard,measure)"
+                " accepts_falls(rules,guard,measure,answer)",
 }
 
 
