@@ -73,7 +73,12 @@ def compose(first, second):
         raise BadValue("first")
     if not is_map(second) or len(second) != len(first):
         raise BadValue("second")
-    composed = tuple([put_in(len(first), p, first) for p in second])
+    composed = put_together(first, second)
     if not is_map(composed):
         raise TooLarge("map")
     return composed
+
+
+def put_together(first, second):
+    """Return the composition of any size, without a check of the arguments."""
+    return tuple([put_in(len(first), p, first) for p in second])

@@ -26,6 +26,13 @@ def is_name(value):
     return value[0] in LETTERS and all([character in LETTERS + DIGITS for character in value])
 
 
+def are_names(x):
+    """Return True if x is a tuple of names as a program can have it."""
+    if not isinstance(x, tuple) or not 1 <= len(x) <= MOST_NAMES or not all([is_name(name) for name in x]):
+        return False
+    return all([name < other for name, other in zip(x, x[1:])])
+
+
 def check_names(names):
     """Raise the error of the first problem of the names."""
     if not isinstance(names, tuple) or not all([isinstance(name, str) for name in names]):

@@ -301,6 +301,8 @@ def call_problems(node, tree, others):
 
 def allowed_as_value(node):
     parent = node.parent
+    if isinstance(parent, ast.FunctionDef) and node in parent.decorator_list:
+        return True
     if isinstance(parent, ast.keyword) and parent.arg == "key":
         return True
     while isinstance(parent, ast.Tuple):

@@ -42,6 +42,13 @@ INTERFACE = {
     "endings": "leads(rules,expression,odd) endless_at_last(rules,guard,state) ends_always(rules,guard)"
                " round_of(rules,guard,state)",
     "papers": "cone_of(rules,guard,pair,raised) accepts_ending(rules,guard,answer)",
+    "explaining": "guard_of(k,condition) loop_reports(program) ending_of(program,loop)",
+    "workshop": "Workshop(text) Workshop.text() Workshop.program() Workshop.ask(loop) Workshop.run(state)"
+                " Workshop.edit(start,end,text) Workshop.undo() Workshop.redo() Workshop.settle() Workshop.journal()"
+                " Workshop.worked() Workshop.used() Workshop.copy() replay(text,journal)",
+    "scanning": "scan(text)",
+    "reading": "next_tokens(text) read_program(text) read_polynomial(names,text) read_condition(names,text)",
+    "writing": "program_text(program) polynomial_text(names,polynomial) condition_text(names,condition)",
     "measures": "kept(rules,guard) accepts_kept(rules,guard,answer) falls(rules,guard,measure)"
                 " accepts_falls(rules,guard,measure,answer)",
 }
