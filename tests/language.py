@@ -53,6 +53,11 @@ BARRED_TEXT = re.compile(
     r"\b(typing|typing_extensions|enum|Enum|IntEnum|StrEnum|Flag|IntFlag|Generic|Protocol|ABC|ABCMeta|namedtuple"
     r"|NamedTuple|TypedDict|TYPE_CHECKING|abstractmethod)\b|dataclass|overload|contextmanager"
 )
+BARRED_ATTRIBUTES = set(
+    "items keys values pop update append clear extend insert remove reverse setdefault sort args encode decode hex"
+    " fromhex format format_map mro register elements open input law"
+    .split()
+)
 BARRED_BEGINNINGS = (
     "_wall", "_pe_", "_dcw_", "_enum_", "_cm_", "_twin_re_", "_lay_", "_law_", "_stub_", "_sre", "_WallAttr",
 )
@@ -216,8 +221,25 @@ def statement_problems(node):
             found.append((line, "L19", "an error that is not caught"))
     if isinstance(node, ast.AnnAssign) or getattr(node, "returns", None) or getattr(node, "annotation", None):
         found.append((line, "L21", "an annotation"))
-    if isinstance(node, ast.ClassDef) and (node.decorator_list or node.keywords):
-        found.append((line, "L5", "a class with a decorator or a keyword"))
+    if isinstance(node, ast.ClassDef):
+        found += class_problems(node)
+    return found
+
+
+def class_problems(node):
+    found = []
+    if node.decorator_list or node.keywords:
+        found.append((node.lineno, "L5", "a class with a decorator or a keyword"))
+    methods = [part.name for part in node.body if isinstance(part, ast.FunctionDef)]
+    for part in ast.walk(node):
+        if isinstance(part, ast.Attribute) and isinstance(part.ctx, ast.Store):
+            if part.attr in methods:
+                found.append((part.lineno, "L18", f"{part.attr} is a method and an attribute"))
+            if part.attr in BARRED_ATTRIBUTES:
+                found.append((part.lineno, "L26", f"an attribute {part.attr}"))
+    for name in methods:
+        if methods.count(name) > 1:
+            found.append((node.lineno, "L18", f"the method {name} is defined twice"))
     return found
 
 

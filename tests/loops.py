@@ -232,7 +232,8 @@ def bad_guards(k, good):
     """Values near a guard over k variables that are none."""
     told = good[0][0]
     rows = [list(told), told[:1], told + (0,), ("gt", told[1]), ("LT", told[1]), (None, told[1]), told[::-1],
-            (told[0], list(told[1])), (told[0], told[1][:-1]), (told[0], told[1] + ((0, 1),)), (told[0], ()), (told[0],),
+            (told[0], list(told[1])), (told[0], told[1][:-1]), (told[0], told[1] + ((0, 1),)), (told[0], ()),
+            (told[0],),
             (told[0], told[1][:-1] + ((1000, 1),)), (told[0], ((-1000, 1),) + told[1][1:]),
             (told[0], ((1, 1000),) + told[1][1:]), (told[0], ((2, 2),) + told[1][1:]),
             (told[0], ((True, 1),) + told[1][1:]), (told[0], ((0, 2),) + told[1][1:]), (told[0], (1,) + told[1][1:]),

@@ -196,7 +196,8 @@ class EndlessTests(unittest.TestCase):
         for state, told in [((1, 1), True), ((0, 1), False), ((-1, 1), False)]:
             guard = ((row("lt", 0, -1, 0), row("lt", 0, 0, -1)),)
             check_call(self, told, endless_at_last, rules, guard, tuple([r(n) for n in state]))
-            check_call(self, True, endless_at_last, rules, ((guard[0][0],), (guard[0][1],)), tuple([r(n) for n in state]))
+            check_call(self, True, endless_at_last, rules, ((guard[0][0],), (guard[0][1],)),
+                       tuple([r(n) for n in state]))
 
     def test_many(self):
         """Rounds 60 to 79 tell it for small integers."""

@@ -180,8 +180,10 @@ class GuardTests(unittest.TestCase):
         return (word, tuple([self.some_condition(picker, k, depth - 1) for _ in range(2)]))
 
     def test_no_conditions(self):
-        for bad in ODD_VALUES + [list(A), ("and", (A,)), ("and", (A,) * 7), ("gt", A[1]), ("lt", p(1, x=1)), ("lt", p(2, x=21)),
-                                 no(no(no(no(A)))), ("not", (A,)), every(every(A, A, A, A), some(A, A, A)), ("lt", p(2, x4=1)),
+        for bad in ODD_VALUES + [list(A), ("and", (A,)), ("and", (A,) * 7), ("gt", A[1]), ("lt", p(1, x=1)),
+                                 ("lt", p(2, x=21)),
+                                 no(no(no(no(A)))), ("not", (A,)), every(every(A, A, A, A), some(A, A, A)),
+                                 ("lt", p(2, x4=1)),
                                  every(A, None), RA, (A,)]:
             check_error(self, BadValue, {"name": "condition"}, guard_of, 2, bad)
         for k in (1, 3):
@@ -218,8 +220,10 @@ class ReportTests(unittest.TestCase):
 
     def test_order(self):
         self.check_reports(
-            "var x; if x = 0 { repeat x { } if x = 1 { while x > 0 { x := x^2; } } } else { while x = 0 { } } repeat x { }",
-            ("repeat", None, None), ("while", ("product", 0, ((1, 1), (2,))), None), ("while", None, ((row("eq", 0, 1),),)),
+            "var x; if x = 0 { repeat x { } if x = 1 { while x > 0 { x := x^2; } } } else { while x = 0 { } }"
+            " repeat x { }",
+            ("repeat", None, None), ("while", ("product", 0, ((1, 1), (2,))), None),
+            ("while", None, ((row("eq", 0, 1),),)),
             ("repeat", None, None),
         )
 
@@ -247,13 +251,14 @@ class ReportTests(unittest.TestCase):
 
 
 class EndingTests(unittest.TestCase):
-    TEXT = ("var x, y; while x > 0 { x := x - 1; } while x > 0 or y > 3 { x, y := y - 1, x - 1; } repeat x { y := y + 1; }"
-            " if x = 0 { while x^2 > y { x := x + y; } } ")
+    TEXT = ("var x, y; while x > 0 { x := x - 1; } while x > 0 or y > 3 { x, y := y - 1, x - 1; }"
+            " repeat x { y := y + 1; } if x = 0 { while x^2 > y { x := x + y; } } ")
 
     def test_answers(self):
         for text, word in [("x > 0 { x := x - 1; }", "always"), ("x > 0 { x := 1/2*x; }", "never"),
                            ("x != 0 { x := x - 1; }", "never"), ("x > 0 { x := 5 - x; y := x; }", "never"),
-                           ("x >= 1 and y >= 1 { x := x - y; }", "always"), ("x > y { x := x + 1; y := y + 2; }", "always"),
+                           ("x >= 1 and y >= 1 { x := x - y; }", "always"),
+                           ("x > y { x := x + 1; y := y + 2; }", "always"),
                            ("x < 0 and y = 0 { }", "never"), ("x > y { y := x + y; x := 0; }", "never")]:
             program = read_program("var x, y; while " + text)
             loop = program.loops()[0]

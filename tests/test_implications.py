@@ -34,7 +34,8 @@ class HoldTests(unittest.TestCase):
             check_call(self, told, guard_holds, guard[::-1], (r(number),))
         for count in (1, 2, 3):
             for number in range(11):
-                check_call(self, guard_true(guard[:count], [Fraction(number)]), guard_holds, guard[:count], (r(number),))
+                check_call(self, guard_true(guard[:count], [Fraction(number)]), guard_holds, guard[:count],
+                           (r(number),))
 
     def test_many(self):
         picker = Picker(99)

@@ -159,6 +159,9 @@ class ScriptTests(unittest.TestCase):
         ("def f(x):\n    return x.__class__\n", "L8"), ("class A(metaclass=f):\n    pass\n", "L5"),
         ("def f():\n    for _ in range(3):\n        return _\n", "L12"), ("def f(x):\n    x + 1\n", "L6"),
         ("from math import gcd\n", "import"),
+        ("class A:\n    def __init__(self):\n        self.n = 1\n\n    def n(self):\n        return 1\n", "L18"),
+        ("class A:\n    def n(self):\n        return 1\n\n    def n(self):\n        return 2\n", "L18"),
+        ("class A:\n    def __init__(self):\n        self.items = []\n", "L26"),
     ]
 
     def test_bad_code(self):
@@ -171,7 +174,9 @@ class ScriptTests(unittest.TestCase):
             "class Bad(ValueError):\n    def __init__(self, name):\n        self.name = name\n\n\n"
             "def f(x, y=(1, 2)):\n    found = sorted([a for a, b in zip(x, y)], key=lambda a: -a, reverse=True)\n"
             "    if not isinstance(x, (int, str)) and x is not None:\n        raise Bad('x')\n"
-            "    for _ in range(gcd(1, 2)):\n        found.append(is_map(x))\n    return tuple(found)\n"
+            "    for _ in range(gcd(1, 2)):\n        found.append(is_map(x))\n    return tuple(found)\n\n\n"
+            "class Box:\n    def __init__(self):\n        self.count = 1\n\n    @property\n    def many(self):\n"
+            "        return self.count\n"
         )
         self.assertEqual(problems("a.py", text), [])
 

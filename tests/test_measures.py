@@ -50,7 +50,8 @@ class KeptTests(unittest.TestCase):
         return answer
 
     def test_one_variable(self):
-        for rules, word in [(UP, "always"), (DOWN, "state"), (HALF, "always"), (TURN, "state"), ((p(1, x=1),), "always"),
+        for rules, word in [(UP, "always"), (DOWN, "state"), (HALF, "always"), (TURN, "state"),
+                            ((p(1, x=1),), "always"),
                             ((p(1, one=3),), "always"), ((p(1, one=-3),), "state"), (((),), "state")]:
             self.check_kept(rules, POSITIVE, word)
         self.assertIn(kept(DOWN, POSITIVE)[1][0], [(1, 1)] + [r(n, 12) for n in range(1, 12)])

@@ -194,18 +194,21 @@ class AcceptTests(unittest.TestCase):
             answer = ("always", (((), ("one", numbers)),))
             check_call(self, right_ending(DOWN, POSITIVE, answer), accepts_ending, DOWN, POSITIVE, answer)
         for numbers, told in [((1, 0, 0, 1), True), ((1, 1, 0, 2), True), ((1, 0, 1, 0), False), ((0, 0, 0, 0), False),
-                              ((2, 0, 1, 1), True), ((1, 0, 0, 2), False), ((-1, 2, 0, 1), False), ((0, 0, -1, 1), False),
+                              ((2, 0, 1, 1), True), ((1, 0, 0, 2), False), ((-1, 2, 0, 1), False),
+                              ((0, 0, -1, 1), False),
                               ((10 ** 90, 10 ** 90, 0, 2 * 10 ** 90), True)]:
             answer = ("always", (((), ("one", tuple([r(n) for n in numbers]))),))
             check_call(self, told, accepts_ending, DOWN, POSITIVE, answer)
         long = tuple([r(n, 10 ** 100 + 1) for n in (3, 4, 0, 7)])
         check_call(self, True, accepts_ending, DOWN, POSITIVE, ("always", (((), ("one", long)),)))
         for numbers in [((1, 1), ZERO, (1, 1)), ((1, 1), ZERO, ZERO, (1, 1), ZERO), ((1, 1), ZERO, ZERO, (2, 2)),
-                        ((1, 1), ZERO, ZERO, (True, 1)), ((1, 1), ZERO, ZERO, 1), (), None, [(1, 1), ZERO, ZERO, (1, 1)]]:
+                        ((1, 1), ZERO, ZERO, (True, 1)), ((1, 1), ZERO, ZERO, 1), (), None,
+                        [(1, 1), ZERO, ZERO, (1, 1)]]:
             check_call(self, False, accepts_ending, DOWN, POSITIVE, ("always", (((), ("one", numbers)),)))
         # Once the front -1 is raised, it is an equation, which may have a multiplier below 0.
         step = (0, (ZERO, (1, 1), (1, 1), (1, 1)))
-        self.assertFalse(accepts_ending(DOWN, POSITIVE, ("always", (((step,), ("one", ((1, 1), ZERO, ZERO, (1, 1)))),))))
+        self.assertFalse(accepts_ending(DOWN, POSITIVE,
+                                        ("always", (((step,), ("one", ((1, 1), ZERO, ZERO, (1, 1)))),))))
         step = (0, (ZERO, ZERO, (1, 1), (1, 1)))
         end = ((-1, 1), ZERO, ZERO, ZERO, (1, 1))
         check_call(self, True, accepts_ending, DOWN, POSITIVE, ("always", (((step,), ("one", end)),)))
@@ -226,7 +229,8 @@ class AcceptTests(unittest.TestCase):
         self.assertEqual([ends_always(turn, guard)[1][place][1][0] for place in (1, 2, 3)], ["strict"] * 3)
         check_call(self, True, accepts_ending, turn, guard, ("always", (answer[1][0], strict[2], strict[1], strict[1])))
         check_call(self, True, accepts_ending, turn, guard, ("always", (answer[1][0], strict[2], strict[1], strict[3])))
-        for bad in [(strict[1], strict[1], strict[1]), (strict[2], strict[2], strict[1]), (strict[2], strict[1], strict[2])]:
+        for bad in [(strict[1], strict[1], strict[1]), (strict[2], strict[2], strict[1]),
+                    (strict[2], strict[1], strict[2])]:
             check_call(self, False, accepts_ending, turn, guard, ("always", (answer[1][0],) + bad))
 
     def test_states(self):

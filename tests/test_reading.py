@@ -52,7 +52,8 @@ class GrammarTests(unittest.TestCase):
             ("", ["var"]), (" # comment", ["var"]), ("var", ["a name"]), ("var x", ['";"', '","']),
             ("var x,", ["a name"]), ("var x, x, x, x, x", ['";"', '","']), ("var x;", statements + ["the end"]),
             ("var x; y", ['":="', '","']), ("var x; y,", ["a name"]), ("var x; y, z, x", ['":="', '","']),
-            ("var x; y :=", factor + ['"-"']), ("var x; y := -", factor), ("var x; y := - 7", ['";"'] + ['"+"', '"-"', '"*"', '"/"']),
+            ("var x; y :=", factor + ['"-"']), ("var x; y := -", factor),
+            ("var x; y := - 7", ['";"'] + ['"+"', '"-"', '"*"', '"/"']),
             ("var x; y := 7/", ["a number"]), ("var x; y := 7/8", ['";"', '"+"', '"-"', '"*"']),
             ("var x; y := z", ['";"'] + behind_name), ("var x; y := z^", ["a number"]),
             ("var x; y := z^2", ['";"', '"+"', '"-"', '"*"']), ("var x; y := z*", factor), ("var x; y := z +", factor),
@@ -60,7 +61,8 @@ class GrammarTests(unittest.TestCase):
             ("var x; x, y := z,", factor + ['"-"']), ("var x; x, y := z, z", ['";"'] + behind_name),
             ("var x; x, y, z := 1, 2/3", ['","', '"+"', '"-"', '"*"']),
             ("var x; x := 1;", statements + ["the end"]), ("var x; if", factor + ["not", '"("', '"-"']),
-            ("var x; while", factor + ["not", '"("', '"-"']), ("var x; repeat", ["a name"]), ("var x; repeat x", ['"{"']),
+            ("var x; while", factor + ["not", '"("', '"-"']), ("var x; repeat", ["a name"]),
+            ("var x; repeat x", ['"{"']),
             ("var x; repeat x {", ["a name", '"}"']), ("var x; while x = 0 { x := 1;", ["a name", '"}"']),
             ("var x; if x = 0 {", statements + ['"}"']), ("var x; if x = 0 { x := 1;", statements + ['"}"']),
             ("var x; if x = 0 { }", ["a name", "if", "else", "while", "repeat", "the end"]),
@@ -69,10 +71,12 @@ class GrammarTests(unittest.TestCase):
             ("var x; while x = 0 { }", statements + ["the end"]), ("var x; repeat x { }", statements + ["the end"]),
             ("var x; if x", behind_name + compared), ("var x; if 7", ['"+"', '"-"', '"*"', '"/"'] + compared),
             ("var x; if x <", factor + ['"-"']), ("var x; if x < y", ["and", "or", '"{"'] + behind_name),
-            ("var x; if x < 1/2", ["and", "or", '"{"', '"+"', '"-"', '"*"']), ("var x; if (", factor + ["not", '"("', '"-"']),
+            ("var x; if x < 1/2", ["and", "or", '"{"', '"+"', '"-"', '"*"']),
+            ("var x; if (", factor + ["not", '"("', '"-"']),
             ("var x; if (x < 1", ["and", "or", '")"', '"+"', '"-"', '"*"', '"/"']),
             ("var x; if (x < 1)", ["and", "or", '"{"']), ("var x; if ((x < 1)", ["and", "or", '")"']),
-            ("var x; if x < 1 and", factor + ["not", '"("', '"-"']), ("var x; if x < 1 or", factor + ["not", '"("', '"-"']),
+            ("var x; if x < 1 and", factor + ["not", '"("', '"-"']),
+            ("var x; if x < 1 or", factor + ["not", '"("', '"-"']),
             ("var x; while not (", factor + ["not", '"("', '"-"']),
         ]:
             check_call(self, expected, next_tokens, text)
@@ -179,7 +183,8 @@ class GrammarTests(unittest.TestCase):
                 check_error(self, TextError, attributes, read_polynomial, ("x", "y"), text)
             else:
                 read_polynomial(("x", "y"), text)
-        for text in ["x = 0", "not (x = 0)", "x", "x = 0 and", "(x = 0", "x = 0)", "", "not", "not not x = 0", "x < y < 0",
+        for text in ["x = 0", "not (x = 0)", "x", "x = 0 and", "(x = 0", "x = 0)", "", "not", "not not x = 0",
+                     "x < y < 0",
                      "(x) = 0", "x = 0 or or x = 0", "x = 0 {", "x = (0)", "((x = 0) and y > 1)"]:
             problem = grammar_problem(text, "CONDITION", "END")
             if problem is not None:
@@ -255,12 +260,15 @@ class ProgramTests(unittest.TestCase):
         self.check_read("var x; if x = 0 { x := 1; x := 2; } else { x := 3; }", ("x",),
                         ("if", ("eq", p(1, x=1)), (("set", (p(1, one=1),)), ("set", (p(1, one=2),))),
                          (("set", (p(1, one=3),)),)))
-        self.check_read("var x; while x < 5 { x := x + 1; }", ("x",), ("while", ("lt", p(1, x=1, one=-5)), (p(1, x=1, one=1),)))
+        self.check_read("var x; while x < 5 { x := x + 1; }", ("x",),
+                        ("while", ("lt", p(1, x=1, one=-5)), (p(1, x=1, one=1),)))
         self.check_read("var x, y; repeat y { }", ("x", "y"), ("repeat", 1, (p(2, x=1), p(2, y=1))))
-        self.check_read("var x, y; while x = y { }", ("x", "y"), ("while", ("eq", p(2, x=1, y=-1)), (p(2, x=1), p(2, y=1))))
+        self.check_read("var x, y; while x = y { }", ("x", "y"),
+                        ("while", ("eq", p(2, x=1, y=-1)), (p(2, x=1), p(2, y=1))))
         self.check_read("var x; if x = 0 { if x = 1 { } else { while x = 2 { } } } repeat x { }", ("x",),
                         ("if", ("eq", p(1, x=1)),
-                         (("if", ("eq", p(1, x=1, one=-1)), (), (("while", ("eq", p(1, x=1, one=-2)), (p(1, x=1),)),)),), ()),
+                         (("if", ("eq", p(1, x=1, one=-1)), (),
+                           (("while", ("eq", p(1, x=1, one=-2)), (p(1, x=1),)),)),), ()),
                         ("repeat", 0, (p(1, x=1),)))
         self.check_problem("var x; repeat y { }", 1, 15, UNKNOWN)
         self.check_problem("var x; while y = 1/0 { x := q; }", 1, 14, UNKNOWN)
@@ -270,16 +278,19 @@ class ProgramTests(unittest.TestCase):
     def test_bodies(self):
         self.check_read("var x, y; repeat x { x := x + y; y := x; }", ("x", "y"),
                         ("repeat", 0, (p(2, x=1, y=1), p(2, x=1, y=1))))
-        self.check_read("var x, y; repeat x { x, y := y, x; x, y := y, x; }", ("x", "y"), ("repeat", 0, (p(2, x=1), p(2, y=1))))
+        self.check_read("var x, y; repeat x { x, y := y, x; x, y := y, x; }", ("x", "y"),
+                        ("repeat", 0, (p(2, x=1), p(2, y=1))))
         self.check_read("var x, y; repeat x { x := x^2; y := x*y; x := 3; }", ("x", "y"),
                         ("repeat", 0, (p(2, one=3), p(2, x2y=1))))
-        first, second, third = (p(2, x=1, y=2), p(2, y=1, one=-1)), (p(2, x=1), p(2, x=(1, 2), y=3)), (p(2, y=-1), p(2, y=1))
+        first, second, third = (p(2, x=1, y=2), p(2, y=1, one=-1)), (p(2, x=1), p(2, x=(1, 2), y=3)), (p(2, y=-1),
+                                                                                                       p(2, y=1))
         text = "var x, y; while x = 0 { x, y := x + 2*y, y - 1; y := 1/2*x + 3*y; x := -y; }"
         self.check_read(text, ("x", "y"), ("while", ("eq", p(2, x=1)), compose(compose(first, second), third)))
 
     def test_bodies_that_are_no_maps(self):
         # The map of an assignment alone, at its first token.
-        for bad in ["21*x", "x^4", "1/21", "x*x*x*x", "1 + x + x^2 + x^3 + y + y^2 + y^3", "999999", "-21", "7/3*7/2 - 20/3*4"]:
+        for bad in ["21*x", "x^4", "1/21", "x*x*x*x", "1 + x + x^2 + x^3 + y + y^2 + y^3", "999999", "-21",
+                    "7/3*7/2 - 20/3*4"]:
             self.check_problem("var x, y; repeat x { x := y; y, x := x, " + bad + "; x := q; }", 1, 30, "map")
             self.check_problem("var x, y; repeat x { x := y;\n y := " + bad + "; }", 2, 2, "map")
             self.check_problem("var x, y; repeat x {\n\n  y := " + bad + "; }", 3, 3, "map")
@@ -296,7 +307,8 @@ class ProgramTests(unittest.TestCase):
         self.check_problem("var x; repeat x { x := 21*x; q := 1; }", 1, 19, "map")
         self.check_problem("var x; repeat x { x := 21*x; } x := q;", 1, 19, "map")
         # A whole body that cancels is a map.
-        self.check_read("var x; repeat x { x := 20*x; x := 1/20*x; x := 21*x - 20*x; }", ("x",), ("repeat", 0, (p(1, x=1),)))
+        self.check_read("var x; repeat x { x := 20*x; x := 1/20*x; x := 21*x - 20*x; }", ("x",),
+                        ("repeat", 0, (p(1, x=1),)))
 
     def test_problems_of_programs(self):
         """The problems of point 88 are reported at the first token of their statement, after all others."""
@@ -312,7 +324,8 @@ class ProgramTests(unittest.TestCase):
         self.check_problem("var x; " + deep + "x := 1; " + "}" * 4, 1, 52, "deep")
         self.check_problem("var x; " + deep + "x := 21; " + "}" * 4, 1, 52, "deep")
         read_program("var x; " + "if x = 0 { " * 4 + "}" * 4)
-        self.check_problem("var x; if x = 0 { } else { if x = 0 { if x = 0 { if x = 0 { } else { x := 1; } } } }", 1, 70, "deep")
+        self.check_problem("var x; if x = 0 { } else { if x = 0 { if x = 0 { if x = 0 { } else { x := 1; } } } }", 1,
+                           70, "deep")
         loops = "repeat x { } while x = 0 { } " * 2
         self.assertEqual(len(read_program("var x; " + loops).loops()), 4)
         self.check_problem("var x; " + loops + "x := 1;\nif x = 0 { repeat x { } }", 2, 12, "loops")
@@ -356,7 +369,8 @@ class ProgramTests(unittest.TestCase):
         self.check_problem("var x; x := " + "x + " * 4990 + "x;", 1, 8, "map")
         self.check_problem("var x; x := " + "9/7*" * 7000 + "x;", 1, 8, "map")
         self.check_problem("var x; " + "x, " * 4000 + "x := 1" + ", 1" * 4000 + ";", 1, 11, TWICE)
-        self.check_read("var x; repeat x { " + "x := x + 1; x := x - 1; " * 1200 + "}", ("x",), ("repeat", 0, (p(1, x=1),)))
+        self.check_read("var x; repeat x { " + "x := x + 1; x := x - 1; " * 1200 + "}", ("x",),
+                        ("repeat", 0, (p(1, x=1),)))
         for bad in [text + " " * (30001 - len(text)), "?" * 30001]:
             check_error(self, BadValue, {"name": "text"}, read_program, bad)
             check_error(self, BadValue, {"name": "text"}, next_tokens, bad)
@@ -374,13 +388,17 @@ class ProgramTests(unittest.TestCase):
 class PolynomialTests(unittest.TestCase):
     def test_sums(self):
         for text, expected in [
-            ("0", ()), ("00", ()), ("5", p(1, one=5)), ("-5", p(1, one=-5)), ("007", p(1, one=7)), ("6/4", p(1, one=(3, 2))),
+            ("0", ()), ("00", ()), ("5", p(1, one=5)), ("-5", p(1, one=-5)), ("007", p(1, one=7)),
+            ("6/4", p(1, one=(3, 2))),
             ("-6/04", p(1, one=(-3, 2))), ("0/7", ()), ("x", p(1, x=1)), ("-x", p(1, x=-1)), ("x^1", p(1, x=1)),
-            ("x^0", p(1, one=1)), ("x^00", p(1, one=1)), ("x^3", p(1, x3=1)), ("x^003", p(1, x3=1)), ("-x^0", p(1, one=-1)),
+            ("x^0", p(1, one=1)), ("x^00", p(1, one=1)), ("x^3", p(1, x3=1)), ("x^003", p(1, x3=1)),
+            ("-x^0", p(1, one=-1)),
             ("x*x", p(1, x2=1)), ("x*x^2", p(1, x3=1)), ("2*x*3", p(1, x=6)), ("x*1/2", p(1, x=(1, 2))),
-            ("1/2*2/3*x*3", p(1, x=1)), ("0*x", ()), ("x - x", ()), ("x + x", p(1, x=2)), ("1 - x^2 + x", p(1, x2=-1, x=1, one=1)),
+            ("1/2*2/3*x*3", p(1, x=1)), ("0*x", ()), ("x - x", ()), ("x + x", p(1, x=2)),
+            ("1 - x^2 + x", p(1, x2=-1, x=1, one=1)),
             ("-x - x - 1", p(1, x=-2, one=-1)), ("x - 2*x + 3", p(1, x=-1, one=3)), ("100*x - 99*x", p(1, x=1)),
-            ("x^0*x^0", p(1, one=1)), ("-1/2*x^2*x", p(1, x3=(-1, 2))), ("21/42", p(1, one=(1, 2))), ("x^5 - x^5 + 1", p(1, one=1)),
+            ("x^0*x^0", p(1, one=1)), ("-1/2*x^2*x", p(1, x3=(-1, 2))), ("21/42", p(1, one=(1, 2))),
+            ("x^5 - x^5 + 1", p(1, one=1)),
             ("999999/999999", p(1, one=1)), ("1/3 + 1/6", p(1, one=(1, 2))),
         ]:
             check_call(self, expected, read_polynomial, ("x",), text)
@@ -411,16 +429,20 @@ class PolynomialTests(unittest.TestCase):
                 continue
             for _ in range(3):
                 numbers = [Fraction(picker.number(-9, 9), picker.number(1, 4)) for _ in range(3)]
-                self.assertEqual(fraction_value(found, numbers), eval(python, {"Fraction": Fraction}, dict(zip(names, numbers))))
+                self.assertEqual(fraction_value(found, numbers),
+                                 eval(python, {"Fraction": Fraction}, dict(zip(names, numbers))))
 
     def test_problems(self):
         for text, line, column, words in [
-            ("21", 1, 1, "polynomial"), ("  21*x", 1, 3, "polynomial"), ("# a\n x^4", 2, 2, "polynomial"),
+            ("21", 1, 1, "polynomial"), ("  21*x", 1, 3, "polynomial"), ("\n 21\n*\nx", 2, 2, "polynomial"),
+            ("# a\n x^4", 2, 2, "polynomial"),
             ("1/21", 1, 1, "polynomial"), ("-x + x^4", 1, 1, "polynomial"),
-            ("1 + x + x^2 + x^3 + y + y^2 + y^3", 1, 1, "polynomial"), ("x + q", 1, 5, UNKNOWN), ("x^4 + q", 1, 7, UNKNOWN),
+            ("1 + x + x^2 + x^3 + y + y^2 + y^3", 1, 1, "polynomial"), ("x + q", 1, 5, UNKNOWN),
+            ("x^4 + q", 1, 7, UNKNOWN),
             ("x + 1/0", 1, 7, ZERO), ("x^4\n+ 1/00", 2, 5, ZERO), ("q + 1/0", 1, 1, UNKNOWN), ("1/0 + q", 1, 3, ZERO),
             ("", 1, 1, 'expected a name, a number or "-"'), ("x + ", 1, 5, "expected a name or a number"),
-            ("x = 0", 1, 3, 'expected "+", "-", "*", "^" or the end'), ("(x)", 1, 1, 'expected a name, a number or "-"'),
+            ("x = 0", 1, 3, 'expected "+", "-", "*", "^" or the end'),
+            ("(x)", 1, 1, 'expected a name, a number or "-"'),
         ]:
             attributes = {"line": line, "column": column, "words": words}
             check_error(self, TextError, attributes, read_polynomial, ("x", "y"), text)
@@ -436,7 +458,8 @@ class ConditionTests(unittest.TestCase):
     def test_comparisons(self):
         a = p(2, x=1, y=-1, one=-3)
         b = p(2, x=-1, y=1, one=3)
-        for sign, expected in [("=", ("eq", a)), ("<", ("lt", a)), ("<=", ("le", a)), (">", ("lt", b)), (">=", ("le", b)),
+        for sign, expected in [("=", ("eq", a)), ("<", ("lt", a)), ("<=", ("le", a)), (">", ("lt", b)),
+                               (">=", ("le", b)),
                                ("!=", ("not", ("eq", a)))]:
             self.check_read(expected, "x " + sign + " y + 3")
             self.check_read(expected, "x - y" + sign + "3")
@@ -470,7 +493,8 @@ class ConditionTests(unittest.TestCase):
         picker = Picker(136)
         for _ in range(200):
             text = self.some_text(picker, 3)
-            python = text.replace("!=", "<>").replace("<=", "{").replace(">=", "}").replace("=", "==").replace("<>", "!=")
+            python = text.replace("!=", "<>").replace("<=", "{").replace(">=", "}").replace("=", "==").replace("<>",
+                                                                                                               "!=")
             python = python.replace("{", "<=").replace("}", ">=").replace("^", "**")
             try:
                 condition = read_condition(("x", "y"), text)
@@ -487,7 +511,8 @@ class ConditionTests(unittest.TestCase):
         if choice <= 2:
             sides = ["xy"[picker.number(0, 1)] + (" + ", " - ", "*")[picker.number(0, 2)] + str(picker.number(0, 3))
                      for _ in range(2)]
-            return ("not " if choice == 2 else "") + sides[0] + " " + ("=", "!=", "<", "<=", ">", ">=")[picker.number(0, 5)] \
+            return ("not " if choice == 2 else "") + sides[0] + " " + ("=", "!=", "<", "<=", ">",
+                                                                       ">=")[picker.number(0, 5)] \
                 + " " + sides[1]
         if choice == 3:
             return ("not (", "(")[picker.number(0, 1)] + self.some_text(picker, depth - 1) + ")"
@@ -501,9 +526,11 @@ class ConditionTests(unittest.TestCase):
             (six + " and x = 0", 1, 1, "condition"), ("\n (" + six + ") or x = 0", 2, 2, "comparisons"),
             (" or ".join(["x = 0 and y = 0"] * 3) + " or x = 0", 1, 1, "comparisons"),
             ("  not (not (not (not x = 0)))", 1, 3, "nested"), ("# a\nnot (not (not x != 0))", 2, 1, "nested"),
-            ("21*x = 0", 1, 1, "polynomial"), ("x + 20 < -1", 1, 1, "polynomial"), ("x = 0 or x^4 = 0", 1, 1, "polynomial"),
+            ("21*x = 0", 1, 1, "polynomial"), ("\n 21\n*\nx\n=\n0", 2, 2, "polynomial"),
+            ("x + 20 < -1", 1, 1, "polynomial"), ("x = 0 or x^4 = 0", 1, 1, "polynomial"),
             ("x^4 = 0 and q = 0", 1, 13, UNKNOWN), ("x^4 = 1/0", 1, 9, ZERO), ("q = 1/0", 1, 1, UNKNOWN),
-            (" or ".join(["x = 0"] * 7), 1, 1, "condition"), ("x = 0 and\n(y = 0", 2, 7, 'expected and, or, ")", "+", "-", "*" or "/"'),
+            (" or ".join(["x = 0"] * 7), 1, 1, "condition"),
+            ("x = 0 and\n(y = 0", 2, 7, 'expected and, or, ")", "+", "-", "*" or "/"'),
             ("", 1, 1, 'expected a name, a number, not, "(" or "-"'),
             ("x", 1, 2, 'expected "+", "-", "*", "^", "=", "!=", "<", "<=", ">" or ">="'),
             # From the outside to the inside, and from left to right.
@@ -513,7 +540,8 @@ class ConditionTests(unittest.TestCase):
             attributes = {"line": line, "column": column, "words": words}
             check_error(self, TextError, attributes, read_condition, ("x", "y"), text)
         self.assertEqual(len(read_condition(("x", "y"), six)[1]), 6)
-        self.assertEqual(read_condition(("x", "y"), "not (not (not x = 0))"), ("not", ("not", ("not", ("eq", p(2, x=1))))))
+        self.assertEqual(read_condition(("x", "y"), "not (not (not x = 0))"),
+                         ("not", ("not", ("not", ("eq", p(2, x=1))))))
 
 
 class NameTests(unittest.TestCase):
@@ -524,8 +552,10 @@ class NameTests(unittest.TestCase):
                 expected = tuple([((1, 1), tuple([int(i == j) for j in range(k)]))])
                 check_call(self, expected, read_polynomial, good, name)
                 check_call(self, ("eq", expected), read_condition, good, name + " = 0")
-        for bad in ODD_VALUES + [("a", "b", "c", "d"), ("b", "a"), ("a", "a"), ("a", "c", "b"), ["a"], "a", ("A",), ("",),
-                                 ("abcdefghi",), ("if",), ("1",), ("a", 1), ("a", None), (("a",),), ("a_",), ("\u00e9",)]:
+        for bad in ODD_VALUES + [("a", "b", "c", "d"), ("b", "a"), ("a", "a"), ("a", "c", "b"), ["a"], "a", ("A",),
+                                 ("",),
+                                 ("abcdefghi",), ("if",), ("1",), ("a", 1), ("a", None), (("a",),), ("a_",),
+                                 ("\u00e9",)]:
             for text in ["1", "1 = 1", "?", None]:
                 check_error(self, BadValue, {"name": "names"}, read_polynomial, bad, text)
                 check_error(self, BadValue, {"name": "names"}, read_condition, bad, text)

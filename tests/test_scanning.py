@@ -29,7 +29,8 @@ class Tests(unittest.TestCase):
         for sign in SIGNS:
             if sign not in "({":
                 check_call(self, [("sign", sign, 1, 1), ("end", "", 1, 1 + len(sign))], scan, sign)
-        for word in ["a", "z", "x1", "a0b9", "abcdefgh", "a1234567", "vars", "iff", "elsewhe", "repeats", "nota", "or2"]:
+        for word in ["a", "z", "x1", "a0b9", "abcdefgh", "a1234567", "vars", "iff", "elsewhe", "repeats", "nota",
+                     "or2"]:
             check_call(self, [("name", word, 1, 1), ("end", "", 1, 1 + len(word))], scan, word)
         for number in ["0", "7", "42", "007", "123456", "000000", "999999"]:
             check_call(self, [("number", number, 1, 1), ("end", "", 1, 1 + len(number))], scan, number)
@@ -77,7 +78,8 @@ class Tests(unittest.TestCase):
         check_call(self, [("name", "a", 1, 1), ("name", "b", 2, 1), ("end", "", 2, 2)], scan, "a#b\nb")
 
     def test_no_token(self):
-        for bad in ["A", "Z", "_", ".", "%", "&", "|", "!", ":", "[", "]", "'", '"', "\\", "@", "$", "?", "~", "`", "\r",
+        for bad in ["A", "Z", "_", ".", "%", "&", "|", "!", ":", "[", "]", "'", '"', "\\", "@", "$", "?", "~", "`",
+                    "\r",
                     "\x0b", "\x0c", "\x00", "\x1f", "\x7f", "\xa0", "\u2003", "\u00e9", "\u03b1", "\u0661", "\u00b2",
                     "\uff11", "\uff41", "\u00df", "\u2212", "\u00d7", "\u2264", "\U0001d7d9", "\ufeff"]:
             self.check_problem(bad, 1, 1, NO_TOKEN)
@@ -92,7 +94,8 @@ class Tests(unittest.TestCase):
             self.check_problem(text, 1, column, NO_TOKEN)
 
     def test_long_words(self):
-        for good, bad in [("a" * 8, "a" * 9), ("abcdefg1", "abcdefg12"), ("repeatif", "repeatifs"), ("z" * 8, "z" * 500)]:
+        for good, bad in [("a" * 8, "a" * 9), ("abcdefg1", "abcdefg12"), ("repeatif", "repeatifs"),
+                          ("z" * 8, "z" * 500)]:
             self.assertEqual(shapes(good), [("name", good)])
             self.check_problem(bad, 1, 1, LONG_WORD)
             self.check_problem("x := 2\n * " + bad, 2, 4, LONG_WORD)

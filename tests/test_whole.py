@@ -214,7 +214,8 @@ class WorkedExamples(unittest.TestCase):
                 self.assertEqual(issubclass(one, other), one is other)
         for call, arguments, error in [
             (read_program, (5,), errors.BadValue), (read_program, ("",), errors.TextError),
-            (Workshop, ("var x; x := 21;",), errors.TextError), (ending_of, (read_program("var x;"), 0), errors.BadValue),
+            (Workshop, ("var x; x := 21;",), errors.TextError),
+            (ending_of, (read_program("var x;"), 0), errors.BadValue),
             (kept, ((p(1, x2=1),), None), errors.NotTold),
         ]:
             with self.assertRaises(RoundError) as caught:

@@ -134,10 +134,12 @@ class WorkshopTests(unittest.TestCase):
             (3, 5, "", "var x;\nx := 1;\nx := 2;\n"), (5, 5, "x := 3;", FIVE + "x := 3;\n"),
             (5, 5, "x := 3;\n", FIVE + "x := 3;\n"), (5, 5, "x := 3;\n\n\n", FIVE + "x := 3;\n"),
             (4, 4, "x := x + 1;", "var x;\nx := 1;\nx := 2;\nwhile x - 9 < 0 {\n  x := x + 1;\n}\n"),
-            (4, 4, "x := x + 1; x := 2*x; # twice", "var x;\nx := 1;\nx := 2;\nwhile x - 9 < 0 {\n  x := 2*x + 2;\n}\n"),
+            (4, 4, "x := x + 1; x := 2*x; # twice",
+             "var x;\nx := 1;\nx := 2;\nwhile x - 9 < 0 {\n  x := 2*x + 2;\n}\n"),
             (0, 5, "var b, a; a := b;", "var a, b;\na := b;\n"), (0, 5, "var a;\n", "var a;\n"), (2, 2, "", FIVE),
             (5, 5, "", FIVE), (3, 4, "while x + 1 < 10 {", FIVE), (1, 5, "", "var x;\n"),
-            (2, 3, "if x = 1 { } else { x := 2; }\n", "var x;\nx := 1;\nif x - 1 = 0 {\n} else {\n  x := 2;\n}\nwhile x - 9 < 0 {\n}\n"),
+            (2, 3, "if x = 1 { } else { x := 2; }\n",
+             "var x;\nx := 1;\nif x - 1 = 0 {\n} else {\n  x := 2;\n}\nwhile x - 9 < 0 {\n}\n"),
         ]:
             expected = expected.replace("x < 9", "x - 9 < 0")
             shop = Workshop(FIVE)
@@ -168,7 +170,8 @@ class WorkshopTests(unittest.TestCase):
         for bad in [-1, 6, True, False, None, "0", (0,), 0.0, 10 ** 50]:
             self.check_refused(BadValue, {"name": "start"}, shop.edit, bad, 5, "", shop=shop)
             self.check_refused(BadValue, {"name": "start"}, shop.edit, bad, None, None, shop=shop)
-        for start, bad in [(0, -1), (0, 6), (3, 2), (5, 4), (5, 6), (0, True), (0, False), (0, None), (1, "5"), (0, 5.0)]:
+        for start, bad in [(0, -1), (0, 6), (3, 2), (5, 4), (5, 6), (0, True), (0, False), (0, None), (1, "5"),
+                           (0, 5.0)]:
             self.check_refused(BadValue, {"name": "end"}, shop.edit, start, bad, "", shop=shop)
             self.check_refused(BadValue, {"name": "end"}, shop.edit, start, bad, None, shop=shop)
         for bad in ODD_VALUES + ["#" * 30001]:
@@ -184,7 +187,8 @@ class WorkshopTests(unittest.TestCase):
         self.assertEqual(shop.copy().edit(5, 5, fits + "\n"), 1)
         self.assertEqual(shop.copy().edit(0, 5, "var x;" + "\n" * 29994), 1)
         self.check_refused(TextError, {"line": 1, "column": 1, "words": "expected var"}, shop.edit, 0, 5, "", shop=shop)
-        self.check_refused(TextError, {"line": 2, "column": 1, "words": "this name is unknown"}, shop.edit, 1, 1, "y := 1;",
+        self.check_refused(TextError, {"line": 2, "column": 1, "words": "this name is unknown"}, shop.edit, 1, 1,
+                           "y := 1;",
                            shop=shop)
         self.check_refused(TextError, {"line": 6, "column": 1, "words": "map"}, shop.edit, 5, 5, "x := 21;", shop=shop)
         self.check_refused(TextError, {"line": 2, "column": 3, "words": "no token begins here"}, shop.edit, 1, 4, "  ?",
@@ -223,7 +227,8 @@ class WorkshopTests(unittest.TestCase):
         self.assertEqual(shop.text(), "var x;\nx := 9;\nx := 2;\nx := 1;\n")
         self.assertEqual([shop.undo(), shop.undo(), shop.undo(), shop.undo()], [texts[2], texts[1], texts[0], None])
         self.assertEqual([entry[0] for entry in shop.journal()],
-                         ["edit"] * 4 + ["undo"] * 4 + ["redo"] * 4 + ["undo", "undo", "redo", "undo", "edit"] + ["undo"] * 3)
+                         ["edit"] * 4 + ["undo"] * 4 + ["redo"] * 4 + ["undo", "undo", "redo", "undo",
+                                                                       "edit"] + ["undo"] * 3)
 
     def test_settle(self):
         shop = Workshop("var x;\n")
@@ -373,7 +378,8 @@ class WorkshopTests(unittest.TestCase):
     def test_random_workshops(self):
         """Workshops do what the slow model does, and their journals lead to equal ones."""
         picker = Picker(126)
-        pieces = ["x := 1;", "", "x := x - 1;\n", "repeat y { y := x; }", "if x = 0 {\n}", "while x > 3 {", "}", "# a", "var x, y;",
+        pieces = ["x := 1;", "", "x := x - 1;\n", "repeat y { y := x; }", "if x = 0 {\n}", "while x > 3 {", "}", "# a",
+                  "var x, y;",
                   "x, y := y, x; y := 2;", "y := 21;", "?"]
         for _ in range(25):
             text = "var x, y;\nx := 1;\nwhile x > 0 {\n  x := x - 1;\n}\n"
@@ -397,7 +403,8 @@ class WorkshopTests(unittest.TestCase):
                     self.assertEqual(found, model.edit(start, end, piece))
                     model.entries.append(("edit", start, end, piece))
                 else:
-                    name = ("undo", "redo", "undo", "redo", "settle" if picker.number(0, 5) == 0 else "undo")[action - 5]
+                    name = ("undo", "redo", "undo", "redo",
+                            "settle" if picker.number(0, 5) == 0 else "undo")[action - 5]
                     found = getattr(shop, name)()
                     self.assertEqual(found, getattr(model, name)())
                     if found is not None:
@@ -422,7 +429,8 @@ class ReplayTests(unittest.TestCase):
         shop.redo()
         again = replay(TEXT, shop.journal())
         self.assertIs(type(again), Workshop)
-        self.assertEqual((again.text(), again.journal(), edits_of(again)), (shop.text(), shop.journal(), edits_of(shop)))
+        self.assertEqual((again.text(), again.journal(), edits_of(again)),
+                         (shop.text(), shop.journal(), edits_of(shop)))
         # Questions are not in the journal.
         self.assertEqual((again.worked, again.used), (0, 0))
         journal = shop.journal()
@@ -431,16 +439,21 @@ class ReplayTests(unittest.TestCase):
         self.assertEqual(replay(TEXT, []).journal(), [])
 
     def test_entries_that_do_nothing(self):
-        shop = replay(TEXT, [("undo",), ("redo",), ("edit", 4, 4, "x := 1;"), ("redo",), ("undo",), ("undo",), ("settle",)])
+        shop = replay(TEXT, [("undo",), ("redo",), ("edit", 4, 4, "x := 1;"), ("redo",), ("undo",), ("undo",),
+                             ("settle",)])
         self.assertEqual(shop.journal(), [("edit", 4, 4, "x := 1;"), ("undo",), ("settle",)])
         self.assertEqual(shop.text(), WRITTEN)
 
     def test_no_journals(self):
         good = ("edit", 4, 4, "x := 1;")
-        entries = [("edit",), good[:3], good + (0,), ("edit", True, 4, ""), ("edit", 4, False, ""), ("edit", 4, 4, None),
-                   ("edit", 4, "4", ""), ("edit", None, 4, ""), ("edit", 4, 4, b"x := 1;"), ["edit", 4, 4, ""], list(good),
-                   ("undo", 1), ("redo", ()), ("settle", 0), ("Undo",), ("ask", 0), ("run", ()), (), "undo", ["undo"], None,
-                   ("undo",) * 2, (("undo",),), 0, ("edit", 4.0, 4, "")]
+        entries = [("edit",), good[:3], good + (0,), ("edit", True, 4, ""), ("edit", 4, False, ""),
+                   ("edit", 4, 4, None),
+                   ("edit", 4, "4", ""), ("edit", None, 4, ""), ("edit", 4, 4, b"x := 1;"), ["edit", 4, 4, ""],
+                   list(good),
+                   ("undo", 1), ("redo", ()), ("settle", 0), ("Undo",), ("ask", 0), ("run", ()), (), "undo", ["undo"],
+                   None,
+                   ("undo",) * 2, (("undo",),), 0, ("edit", 4.0, 4, ""), ("Edit", 4, 4, ""), ("", 4, 4, ""),
+                   (None, 4, 4, "")]
         for bad in [[entry] for entry in entries] + [[good, entry] for entry in entries] + [
                 (good,), good, None, "undo", (), {}, [("undo",)] * 201, True, 0]:
             for text in [TEXT, "?", None]:
@@ -460,7 +473,8 @@ class ReplayTests(unittest.TestCase):
         for bad in [None, 5, "x" * 30001]:
             check_error(self, BadValue, {"name": "text"}, replay, bad, [])
             check_error(self, BadValue, {"name": "text"}, replay, bad, [("edit", -1, 0, "")])
-        check_error(self, TextError, {"line": 1, "column": 1, "words": "expected var"}, replay, "", [("edit", -1, 0, "")])
+        check_error(self, TextError, {"line": 1, "column": 1, "words": "expected var"}, replay, "",
+                    [("edit", -1, 0, "")])
         check_error(self, BadValue, {"name": "start"}, replay, TEXT, [("edit", -1, 0, "")])
         check_error(self, BadValue, {"name": "start"}, replay, TEXT, [("edit", 5, 0, "")])
         check_error(self, BadValue, {"name": "end"}, replay, TEXT, [("undo",), ("edit", 4, 10 ** 30, "?")])

@@ -72,7 +72,8 @@ class PolynomialTests(unittest.TestCase):
             check_error(self, BadValue, {"name": "names"}, polynomial_text, bad, None)
             check_error(self, BadValue, {"name": "names"}, condition_text, bad, ("eq", good))
             check_error(self, BadValue, {"name": "names"}, condition_text, bad, None)
-        for bad in ODD_VALUES + [p(2, x=1), p(1, x=21), p(1, x4=1), p(1, x=(1, 21)), [((1, 1), (1,))], (((2, 2), (1,)),),
+        for bad in ODD_VALUES + [p(2, x=1), p(1, x=21), p(1, x4=1), p(1, x=(1, 21)), [((1, 1), (1,))],
+                                 (((2, 2), (1,)),),
                                  (((0, 1), (1,)),), (((1, 1), (0,)), ((1, 1), (1,)))]:
             if bad != ():
                 check_error(self, BadValue, {"name": "polynomial"}, polynomial_text, ("x",), bad)
@@ -118,7 +119,8 @@ class ConditionTests(unittest.TestCase):
         self.check_text("-x <= 0 or (x = 0 or y - 3 < 0)", ("or", (C, either)))
         self.check_text("x != 0 and not y - 3 < 0", ("and", (("not", A), ("not", B))))
         self.check_text("x != 0 or not y - 3 < 0", ("or", (("not", A), ("not", B))))
-        self.check_text("not (x = 0 and y - 3 < 0) and not (x = 0 or y - 3 < 0)", ("and", (("not", both), ("not", either))))
+        self.check_text("not (x = 0 and y - 3 < 0) and not (x = 0 or y - 3 < 0)",
+                        ("and", (("not", both), ("not", either))))
         self.check_text("((x = 0 or y - 3 < 0) and -x <= 0) and 0 = 0", ("and", (("and", (either, C)), D)))
         self.check_text("(x = 0 and y - 3 < 0 or -x <= 0) or 0 = 0", ("or", (("or", (both, C)), D)))
 
@@ -161,7 +163,8 @@ class ProgramTests(unittest.TestCase):
         for line, rules in [
             ("x := x;", (p(3, x=1), p(3, y=1), p(3, z=1))), ("x := 0;", ((), p(3, y=1), p(3, z=1))),
             ("y := x;", (p(3, x=1), p(3, x=1), p(3, z=1))), ("z := -1/2*z;", (p(3, x=1), p(3, y=1), p(3, z=(-1, 2)))),
-            ("x, y := y, x;", (p(3, y=1), p(3, x=1), p(3, z=1))), ("x, z := 1, 2;", (p(3, one=1), p(3, y=1), p(3, one=2))),
+            ("x, y := y, x;", (p(3, y=1), p(3, x=1), p(3, z=1))),
+            ("x, z := 1, 2;", (p(3, one=1), p(3, y=1), p(3, one=2))),
             ("y, z := x*y + 1, z^2 - 3;", (p(3, x=1), p(3, xy=1, one=1), p(3, z2=1, one=-3))),
             ("x, y, z := 0, 0, 0;", ((), (), ())), ("x := 2*x;", (p(3, x=2), p(3, y=1), p(3, z=1))),
         ]:
@@ -170,7 +173,8 @@ class ProgramTests(unittest.TestCase):
             inner = [] if line == "x := x;" else ["  " + line]
             self.check_text(["var x, y, z;", head] + inner + ["}"], ("x", "y", "z"), ("while", ("eq", ()), rules))
             for i, name in enumerate("xyz"):
-                self.check_text(["var x, y, z;", f"repeat {name} {{"] + inner + ["}"], ("x", "y", "z"), ("repeat", i, rules))
+                self.check_text(["var x, y, z;", f"repeat {name} {{"] + inner + ["}"], ("x", "y", "z"),
+                                ("repeat", i, rules))
         self.check_text(["var b;", "b := b;", "b := 1;"], ("b",), ("set", (p(1, x=1),)), ("set", ONE))
 
     def test_ifs(self):
@@ -179,14 +183,18 @@ class ProgramTests(unittest.TestCase):
         self.check_text(["var x;", head, "}"], ("x",), ("if", test, (), ()))
         self.check_text(["var x;", head, "  x := 1;", "}"], ("x",), ("if", test, (("set", ONE),), ()))
         self.check_text(["var x;", head, "} else {", "  x := 1;", "}"], ("x",), ("if", test, (), (("set", ONE),)))
-        self.check_text(["var x;", head, "  x := 1;", "  x := 2*x;", "} else {", "  x := 2*x;", "  x := 1;", "}", "x := 1;"],
+        self.check_text(["var x;", head, "  x := 1;", "  x := 2*x;", "} else {", "  x := 2*x;", "  x := 1;", "}",
+                         "x := 1;"],
                         ("x",), ("if", test, (("set", ONE), ("set", TWO)), (("set", TWO), ("set", ONE))), ("set", ONE))
         inner = ("if", ("not", test), (("repeat", 0, TWO),), (("while", test, (p(1, x=1),)),))
-        lines = ["  if not x < 0 {", "    repeat x {", "      x := 2*x;", "    }", "  } else {", "    while x < 0 {", "    }", "  }"]
+        lines = ["  if not x < 0 {", "    repeat x {", "      x := 2*x;", "    }", "  } else {", "    while x < 0 {",
+                 "    }", "  }"]
         self.check_text(["var x;", head] + lines + ["}"], ("x",), ("if", test, (inner,), ()))
-        self.check_text(["var x;", head] + lines + ["} else {"] + lines + ["}"], ("x",), ("if", test, (inner,), (inner,)))
+        self.check_text(["var x;", head] + lines + ["} else {"] + lines + ["}"], ("x",),
+                        ("if", test, (inner,), (inner,)))
         last = ("if", test, (), (("if", test, (), (("if", test, (), (("set", ONE),)),)),))
-        self.check_text(["var x;", head, "} else {", "  " + head, "  } else {", "    " + head, "    } else {", "      x := 1;",
+        self.check_text(["var x;", head, "} else {", "  " + head, "  } else {", "    " + head, "    } else {",
+                         "      x := 1;",
                          "    }", "  }", "}"], ("x",), last)
 
     def test_conditions(self):
